@@ -319,6 +319,38 @@ func TestCookie(t *testing.T) {
 	}
 }
 
+// again is how many associations b has behind a second cookie, of one with a tag.
+func again(t *testing.T, tag uint32, params ...api.Param) int {
+	t.Helper()
+	b := made(t, 2)
+	b.Listen(6)
+	give(b, 1, 2, 0, echoOf(t, b, 0))
+	b.Outs()
+	p := initOf(random, params...)
+	p.Chunks[0].Tag = tag
+	give(b, 1, 2, 0, p)
+	_, ack := one(t, b)
+	c, _ := param.Find(ack.Chunks[0].Params, api.ParamCookie)
+	give(b, 1, 2, 0, api.Packet{From: 5, To: 6, Tag: ack.Chunks[0].Tag, Chunks: []api.Chunk{{Type: api.ChunkEcho, Data: c.Value}}})
+	return b.Many()
+}
+
+func TestAnotherOneAsks(t *testing.T) {
+	restart := api.Param{Type: api.ParamRestart}
+	if n := again(t, 78); n != 1 {
+		t.Error("one that began anew opens one", n)
+	}
+	if n := again(t, 78, restart); n != 2 {
+		t.Error("another one behind the same one between", n)
+	}
+	if n := again(t, 77, restart); n != 2 {
+		t.Error("the same one, to which nobody answered", n)
+	}
+	if n := again(t, 77); n != 2 {
+		t.Error("the same one, that may begin anew", n)
+	}
+}
+
 func TestStale(t *testing.T) {
 	b := made(t, 2)
 	b.Listen(6)

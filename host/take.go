@@ -77,16 +77,26 @@ func (h *Host) begin(p api.Packet, d api.Datagram, now int) {
 	if at >= 0 {
 		s := those[at].Setup()
 		c.Mine, c.MyTsn, c.MyRandom, out, in = s.Mine, s.MyTsn, s.MyRandom, s.Out, s.In
-		c.TieMine, c.TieYours = s.Mine, s.Yours
 	} else {
 		c.Mine, c.MyTsn, c.MyRandom = h.drawTag(), h.drawer.draw(), h.drawer.random()
 	}
-	if at < 0 && len(those) > 0 {
-		s := those[0].Setup()
-		c.TieMine, c.TieYours = s.Mine, s.Yours
-	}
+	_, restart := param.Find(looked, api.ParamRestart)
+	c.TieMine, c.TieYours = tied(those, asks.Tag, !restart)
 	c.Out, c.In = min(out, asks.In), min(in, asks.Out)
 	h.answer(p, d, c, api.Chunk{Type: api.ChunkInitAck, Tag: c.Mine, Rwnd: api.RoomIn, Out: out, In: in, Tsn: c.MyTsn}, told)
+}
+
+// tied is the tags that were there ahead: of the association with the tag of who asks now. One that may begin anew may have had another tag then; one that may not is another one behind the same one between.
+func tied(those []*assoc.Assoc, yours uint32, anew bool) (uint32, uint32) {
+	at := slices.IndexFunc(those, func(a *assoc.Assoc) bool { return a.Setup().Yours == yours })
+	if at < 0 && anew && len(those) > 0 {
+		at = 0
+	}
+	if at < 0 {
+		return 0, 0
+	}
+	s := those[at].Setup()
+	return s.Mine, s.Yours
 }
 
 func asking(a *assoc.Assoc) bool {
