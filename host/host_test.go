@@ -121,7 +121,7 @@ func TestListen(t *testing.T) {
 func TestConnectNot(t *testing.T) {
 	h := made(t, 1)
 	for n, change := range []func(x *Want){
-		func(x *Want) { x.Local = 2 }, func(x *Want) { x.Local = -1 }, func(x *Want) { x.MyPort = 0 }, func(x *Want) { x.PeerPort = 65536 }, func(x *Want) { x.Peer = 0 }, func(x *Want) { x.Streams = 0 }, func(x *Want) { x.Streams = 17 },
+		func(x *Want) { x.Local = 2 }, func(x *Want) { x.Local = -1 }, func(x *Want) { x.MyPort = 0 }, func(x *Want) { x.PeerPort = 65536 }, func(x *Want) { x.Peer = 0 }, func(x *Want) { x.Peer = 101 }, func(x *Want) { x.Streams = 0 }, func(x *Want) { x.Streams = 17 },
 	} {
 		x := want()
 		change(&x)
