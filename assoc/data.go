@@ -107,9 +107,8 @@ func (a *Assoc) acked(cum uint32, gaps []api.Gap, x *arrival) bool {
 	before := a.Paths()
 	told := a.flight.Sack(cum, gaps, len(before), x.now)
 	a.each(func(n int, p api.Path) api.Path {
-		full := before[n].Flight >= before[n].Cwnd
 		if told.Came[n] > 0 {
-			p = path.Grow(path.Good(p), told.Came[n], full && told.More)
+			p = path.Grow(path.Good(p), told.Came[n], full(before[n]) && told.More)
 		}
 		if told.Took[n] >= 0 {
 			p = path.Took(p, told.Took[n])
@@ -128,6 +127,9 @@ func (a *Assoc) acked(cum uint32, gaps []api.Gap, x *arrival) bool {
 	a.errors = 0
 	return true
 }
+
+// full tells whether no whole part of a message has room on a path: a few bytes that are left are no room.
+func full(x api.Path) bool { return x.Cwnd-x.Flight < api.PartBytes }
 
 // flush sends what is to be sent again, and what waits, as far as there is room.
 func (a *Assoc) flush(now int) {

@@ -120,6 +120,21 @@ func TestPacketsAndRoom(t *testing.T) {
 	}
 }
 
+func TestFull(t *testing.T) {
+	for bytes, want := range map[int]int{1600: 1800, 1601: 2200} {
+		a, _ := pair(t)
+		send(t, a, 1, say(bytes))
+		come(t, a, 2, api.Chunk{Type: api.ChunkSack, Tsn: 101, Rwnd: 6000})
+		if x := a.Paths()[0]; x.Cwnd != want {
+			t.Errorf("%d bytes: %+v", bytes, x)
+		}
+		come(t, a, 2, api.Chunk{Type: api.ChunkSack, Tsn: 101, Rwnd: 6000, Gaps: []api.Gap{{From: 3, To: 4}}})
+		if x := a.Paths()[0]; x.Cwnd != want {
+			t.Errorf("Cum did not go on: %+v", x)
+		}
+	}
+}
+
 func TestYourRoom(t *testing.T) {
 	a, _ := pair(t)
 	send(t, a, 1, say(400))
