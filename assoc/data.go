@@ -1,6 +1,8 @@
 package assoc
 
 import (
+	"slices"
+
 	"crossway/ackplan"
 	"crossway/api"
 	"crossway/cause"
@@ -126,6 +128,18 @@ func (a *Assoc) acked(cum uint32, gaps []api.Gap, x *arrival) bool {
 	})
 	a.errors = 0
 	return true
+}
+
+// toldRoom takes the room that a sack says. One that does not say all that is known to have come was sent ahead of another one: the other side has no more room than was known, else what is missing could find no room there.
+func (a *Assoc) toldRoom(room int, gaps []api.Gap) {
+	for n, x := range a.flight.All() {
+		said := func(g api.Gap) bool { return g.From <= n+1 && n+1 <= g.To }
+		if x.Came && !slices.ContainsFunc(gaps, said) {
+			a.yourRoom = min(a.yourRoom, room)
+			return
+		}
+	}
+	a.yourRoom = room
 }
 
 // full tells whether no whole part of a message has room on a path: a few bytes that are left are no room.

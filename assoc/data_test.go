@@ -172,6 +172,23 @@ func TestOldSacks(t *testing.T) {
 	}
 }
 
+func TestRoomOfAnOldSack(t *testing.T) {
+	a, _ := pair(t)
+	send(t, a, 1, say(1000))
+	a.Outs()
+	gaps := []api.Gap{{From: 3, To: 4}}
+	come(t, a, 2, api.Chunk{Type: api.ChunkSack, Tsn: 100, Rwnd: 900, Gaps: gaps})
+	come(t, a, 2, api.Chunk{Type: api.ChunkSack, Tsn: 100, Rwnd: 6000})
+	send(t, a, 3, say(1000))
+	if n := len(types(a.Outs())); n != 2 {
+		t.Error("900 bytes of room less 400", n)
+	}
+	come(t, a, 4, api.Chunk{Type: api.ChunkSack, Tsn: 100, Rwnd: 6000, Gaps: gaps})
+	if n := len(types(a.Outs())); n == 0 {
+		t.Error("more room")
+	}
+}
+
 func TestThirdOfFourIsLost(t *testing.T) {
 	a, b := pair(t)
 	send(t, a, 1, say(200), say(200), "third", say(200))

@@ -84,7 +84,7 @@ func (a *Assoc) look(c api.Chunk, x *arrival) {
 		a.data(c, x)
 	case api.ChunkSack:
 		if a.acked(c.Tsn, c.Gaps, x) {
-			a.yourRoom = int(c.Rwnd)
+			a.toldRoom(int(c.Rwnd), c.Gaps)
 		}
 	case api.ChunkBeat:
 		a.send(x.way, api.Chunk{Type: api.ChunkBeatAck, Data: c.Data})
