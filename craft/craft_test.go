@@ -7,6 +7,7 @@ import (
 
 	"crossway/api"
 	"crossway/packet"
+	"crossway/show"
 )
 
 func TestHex(t *testing.T) {
@@ -78,6 +79,54 @@ func TestText(t *testing.T) {
 	}
 	if Text(api.Packet{}) != "0 0 0" || Chunk(api.Chunk{Type: 11}) != "11 0" {
 		t.Error("Text of none")
+	}
+}
+
+// full is a chunk of a type that has all lists, and its text: the numbers and bytes of its type, and just those lists that it says.
+func full(typ int) (api.Chunk, string) {
+	c := api.Chunk{Type: typ, Tsn: 1, Stream: 2, Ssn: 3, Proto: 4, Data: "d", Tag: 5, Rwnd: 6, Out: 7, In: 8,
+		Params: []api.Param{{Type: 5, Value: "p"}}, Causes: []api.Cause{{Code: 12, Info: "c"}}, Gaps: []api.Gap{{From: 2, To: 3}}, Dups: []uint32{9}}
+	says := map[int]string{
+		0: " 1 2 3 4 64", 1: " 5 6 7 8 1 p5:70", 2: " 5 6 7 8 1 p5:70", 3: " 1 6 2-3 +9", 6: " c12:63", 7: " 1", 8: "", 9: " c12:63", 11: "", 14: "", 15: " 2 3 64",
+		0xc1: " 1 p5:70", 0x80: " 1 p5:70", 0x82: " 1 p5:70",
+	}
+	text, ok := says[typ]
+	if !ok {
+		text = " 64"
+	}
+	return c, show.Num(typ) + " 0" + text
+}
+
+func TestListsOfOtherTypes(t *testing.T) {
+	for typ := range 256 {
+		c, want := full(typ)
+		if got := Chunk(c); got != want {
+			t.Errorf("%q, not %q", got, want)
+		}
+		if got := Text(api.Packet{From: 1, To: 2, Tag: 5, Chunks: []api.Chunk{c, c}}); got != "1 2 5 | "+want+" | "+want {
+			t.Errorf("Text %q", got)
+		}
+	}
+}
+
+func TestParseListsOfOtherTypes(t *testing.T) {
+	for typ := range 256 {
+		_, says := full(typ)
+		s := "1 2 5 | " + says
+		if typ == api.ChunkInit {
+			s = "1 2 0 | " + says
+		}
+		if _, err := Parse(s); err != api.OK {
+			t.Errorf("%q: %v", s, err)
+		}
+		for item, kind := range map[string]string{" p5:70": " p", " c12:63": " c", " 2-3": "-", " +9": "+"} {
+			if strings.Contains(says, kind) {
+				continue
+			}
+			if p, err := Parse(s + item); err != api.ErrForm || !reflect.DeepEqual(p, api.Packet{}) {
+				t.Errorf("%q with %q: %+v %v", s, item, p, err)
+			}
+		}
 	}
 }
 
