@@ -50,7 +50,7 @@ func TestPutNot(t *testing.T) {
 	s := New(2)
 	s.Put(message(0, 0, "x"))
 	s.Put(message(0, 3, "y"))
-	for _, m := range []api.Message{message(2, 0, "z"), message(-1, 0, "z"), message(math.MaxInt, 0, "z"), {Stream: 2, Loose: true, Data: "z"}, message(0, 0, "z"), message(0, 3, "z"), message(0, 65535, "z"), message(0, -1, "z"), message(0, 65537, "z"), message(1, 65536, "z")} {
+	for _, m := range []api.Message{message(2, 0, "z"), message(-1, 0, "z"), message(math.MaxInt, 0, "z"), {Stream: 2, Loose: true, Data: "z"}, message(0, 0, "z"), message(0, 3, "z"), message(0, 65535, "z"), message(0, -1, "z"), message(0, 65536, "z"), message(0, 65539, "z"), message(0, 3-65536, "z"), message(0, -65536, "z"), message(1, -1, "z"), message(1, 65535, "z"), message(1, 32769, "z"), message(1, math.MaxInt, "z")} {
 		if s.Put(m) {
 			t.Errorf("%+v comes", m)
 		}
@@ -74,6 +74,28 @@ func TestRound(t *testing.T) {
 				}
 			}
 		}
+	}
+}
+
+// Of a place 16 bits count; a message is read as it was put.
+func TestPlaceBeyond16Bits(t *testing.T) {
+	s := New(1)
+	for n, ssn := range []int{65536, 1 - 65536, 2, math.MinInt + 3, 4 + 7*65536} {
+		if !s.Put(message(0, ssn, "d")) || s.Ready() != 1 || s.Bytes() != 1 {
+			t.Error("place", n)
+		}
+		if s.Put(message(0, ssn, "d")) || s.Put(message(0, n, "d")) {
+			t.Error("twice", n)
+		}
+		if m, ok := s.Read(); !ok || m != message(0, ssn, "d") {
+			t.Errorf("read %+v", m)
+		}
+		if s.Put(message(0, ssn, "d")) || s.Put(message(0, n, "d")) || s.Bytes() != 0 {
+			t.Error("it was read already", n)
+		}
+	}
+	if !s.Put(message(0, 65536+6, "d")) || s.Ready() != 0 || s.Put(message(0, 6, "d")) || !s.Put(message(0, 5+32767, "d")) || !s.Put(message(0, 5, "d")) || s.Ready() != 2 {
+		t.Error("those that wait")
 	}
 }
 
