@@ -84,3 +84,12 @@ time 3 dropped 0 wrong 0 0
 		t.Errorf("%s", s)
 	}
 }
+
+func TestInsideAndOutside(t *testing.T) {
+	s, _, _ := Run("nat 100 16\nhost 1:0\nhost 1:-1\nlisten 1 5000\nconnect 0 0 4000 1 0 5000 2\ncalm 8\n")
+	for _, line := range []string{"connect 0\n", "news 0 0 1 0\n", "news 1 0 1 0\n", "assoc 0 0 open left 0 missing 0\n", "assoc 1 0 open left 0 missing 0\n", " wrong 0 0\n"} {
+		if !strings.Contains(s, line) {
+			t.Errorf("%s is missing in\n%s", line, s)
+		}
+	}
+}

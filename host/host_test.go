@@ -121,7 +121,7 @@ func TestListen(t *testing.T) {
 func TestConnectNot(t *testing.T) {
 	h := made(t, 1)
 	for n, change := range []func(x *Want){
-		func(x *Want) { x.Local = 2 }, func(x *Want) { x.Local = -1 }, func(x *Want) { x.MyPort = 0 }, func(x *Want) { x.PeerPort = 65536 }, func(x *Want) { x.Peer = 0 }, func(x *Want) { x.Peer = 101 }, func(x *Want) { x.Streams = 0 }, func(x *Want) { x.Streams = 17 },
+		func(x *Want) { x.Local = 2 }, func(x *Want) { x.Local = -1 }, func(x *Want) { x.MyPort = 0 }, func(x *Want) { x.PeerPort = 65536 }, func(x *Want) { x.Peer = 0 }, func(x *Want) { x.Streams = 0 }, func(x *Want) { x.Streams = 17 },
 	} {
 		x := want()
 		change(&x)
@@ -439,6 +439,118 @@ func TestBothAsk(t *testing.T) {
 		if out != 2 || in != 2 || bOut != 2 || bIn != 2 {
 			t.Error("streams", out, in, bOut, bIn)
 		}
+	}
+}
+
+// A host may ask itself, as any other one: from one port to another one on which it can be asked, over one address or two.
+func TestAsksItself(t *testing.T) {
+	for _, x := range []Want{{MyPort: 5, Peer: 1, PeerPort: 6, Streams: 3}, {MyPort: 5, Peer: 101, PeerPort: 6, Streams: 3}, {MyPort: 6, Peer: 101, PeerPort: 6, Streams: 3}, {Local: 1, MyPort: 5, Peer: 1, PeerPort: 6, Streams: 3, Plain: true}} {
+		h := made(t, 1)
+		h.Listen(6)
+		if id, err := h.Connect(x, 0); id != 0 || err != api.OK {
+			t.Fatal("Connect", id, err)
+		}
+		if id, err := h.Connect(x, 0); id != -1 || err != api.ErrInput || h.Many() != 1 {
+			t.Error("an association of these is there", id, err)
+		}
+		calm(0, h)
+		if h.Many() != 2 || h.At(0).State() != api.StateOpen || h.At(1).State() != api.StateOpen {
+			t.Fatal("not open", x)
+		}
+		if a, b := h.At(0).Setup(), h.At(1).Setup(); a.Mine != b.Yours || a.Yours != b.Mine || a.Mine == b.Mine || a.MyPort != b.PeerPort || a.Local != b.Peer || a.Peer != b.Local {
+			t.Errorf("%+v %+v", a, b)
+		}
+		for id, other := range []int{1, 0} {
+			if h.Send(id, api.Message{Data: "hello"}, 1) != api.OK {
+				t.Error("Send", id)
+			}
+			calm(1, h)
+			if m, ok := h.Read(other, 1); !ok || m.Data != "hello" {
+				t.Error("Read", other, m)
+			}
+			if _, ok := h.Read(id, 1); ok {
+				t.Error("who sent it reads it", id)
+			}
+		}
+		h.Shut(0, 2)
+		for now := range 10 {
+			h.Tick(now)
+			calm(now, h)
+		}
+		if h.At(0).State() != api.StateClosed || h.At(1).State() != api.StateClosed {
+			t.Error("not shut down", x)
+		}
+	}
+	h := made(t, 1)
+	h.Connect(Want{MyPort: 5, Peer: 1, PeerPort: 6, Streams: 3}, 0)
+	calm(0, h)
+	if h.Many() != 1 || h.At(0).State() != api.StateClosed {
+		t.Error("its port can't be asked")
+	}
+}
+
+// From a port to that port, at one address, both sides are one association: it is in StateWait when it is asked, and answers with its own numbers.
+func TestIsItsOwnOtherSide(t *testing.T) {
+	for _, listens := range []bool{false, true} {
+		h := made(t, 1)
+		if listens {
+			h.Listen(5)
+		}
+		h.Connect(Want{MyPort: 5, Peer: 1, PeerPort: 5, Streams: 3}, 0)
+		calm(0, h)
+		if s := h.At(0).Setup(); h.Many() != 1 || h.At(0).State() != api.StateOpen || s.Mine != s.Yours || s.MyTsn != s.YourTsn {
+			t.Fatalf("not open %+v", s)
+		}
+		for n := range 5 {
+			if h.Send(0, api.Message{Data: strings.Repeat("x", 500+n)}, n) != api.OK {
+				t.Error("Send", n)
+			}
+			h.Tick(n)
+			calm(n, h)
+		}
+		for n := range 5 {
+			if m, ok := h.Read(0, 5); !ok || len(m.Data) != 500+n {
+				t.Error("Read", n)
+			}
+		}
+		if _, ok := h.Read(0, 5); ok {
+			t.Error("it is read once")
+		}
+		h.Shut(0, 6)
+		for now := 6; now < 10; now++ {
+			h.Tick(now)
+			calm(now, h)
+		}
+		if h.At(0).State() != api.StateClosed {
+			t.Error("not shut down")
+		}
+	}
+}
+
+// What has an own address on the other side, too, is of another host: one between stands there.
+func TestOtherHostOfOwnAddress(t *testing.T) {
+	a, b := made(t, 1), made(t, 1)
+	b.Listen(6)
+	if id, err := a.Connect(Want{MyPort: 5, Peer: 1, PeerPort: 6, Streams: 3}, 0); id != 0 || err != api.OK {
+		t.Fatal("Connect", id, err)
+	}
+	between := func(from, to *Host) {
+		for _, d := range from.Outs() {
+			switch {
+			case from == a:
+				d.From = 50
+			default:
+				d.To = 1
+			}
+			to.Take(d, 0)
+		}
+	}
+	for range 3 {
+		between(a, b)
+		between(b, a)
+	}
+	if a.At(0).State() != api.StateOpen || b.At(0).State() != api.StateOpen || a.Many() != 1 || b.At(0).Setup().Peer != 50 {
+		t.Error("not open")
 	}
 }
 

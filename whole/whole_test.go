@@ -19,11 +19,11 @@ import (
 
 func at(a api.Addr, nat int) api.Place { return api.Place{Addr: a, Nat: nat} }
 
-// topology is hosts 0 and 1 behind one between (0 behind a second one, too), 2 and 3 outside, 4 behind the second one.
+// topology is hosts 0 and 1 behind one between (0 behind a second one, too), 2 and 3 outside, 4 behind the second one; 1 and 3 have one address, inside and outside.
 func topology() api.Topo {
 	return api.Topo{
 		Hosts: []api.HostSpec{
-			{Places: []api.Place{at(1, 0), at(2, 1)}, Key: "a"}, {Places: []api.Place{at(3, 0)}, Key: "b"},
+			{Places: []api.Place{at(1, 0), at(2, 1)}, Key: "a"}, {Places: []api.Place{at(12, 0)}, Key: "b"},
 			{Places: []api.Place{at(10, -1), at(11, -1)}, Key: "c"}, {Places: []api.Place{at(12, -1)}, Key: "d"}, {Places: []api.Place{at(1, 1), at(13, -1)}, Key: "e"},
 		},
 		Nats: []api.NatSpec{{Outer: 100, Most: 8}, {Outer: 101, Most: 5}},
@@ -155,7 +155,7 @@ func (p *play) storm(steps int) {
 			p.do(p.s.Next(p.w.Items()))
 		}
 	}
-	if wrong := p.m.Wrong(p.w); wrong != 0 {
+	if wrong := p.wrong(); wrong != 0 {
 		p.t.Fatalf("wrong %d", wrong)
 	}
 }
@@ -174,9 +174,48 @@ func (p *play) readAll() {
 	}
 }
 
+// other is the other side of an association: of another host, or, if a host asks itself, of that one (perhaps itself).
+func (p *play) other(k api.End) (api.End, bool) {
+	mine := p.w.Assoc(k.Host, k.ID).Setup()
+	var l []api.End
+	for _, x := range model.Ends(p.w) {
+		yours := p.w.Assoc(x.Host, x.ID).Setup()
+		if yours.Mine == mine.Yours && yours.Yours == mine.Mine && yours.MyPort == mine.PeerPort && yours.PeerPort == mine.MyPort {
+			l = append(l, x)
+		}
+	}
+	if len(l) != 1 {
+		return api.End{}, false
+	}
+	return l[0], true
+}
+
+// wrong is what is wrong of all that was read; the model knows of no other side that is of the same host.
+func (p *play) wrong() int {
+	wrong, own := 0, 0
+	for _, k := range model.Ends(p.w) {
+		if len(p.m.Read(k)) == 0 {
+			continue
+		}
+		peer, ok := p.other(k)
+		switch {
+		case !ok:
+			wrong |= api.WrongGhost
+			continue
+		case peer.Host == k.Host:
+			own = api.WrongGhost
+		}
+		wrong |= model.Held(p.m.Sent(peer), p.m.Read(k))
+	}
+	if told := p.m.Wrong(p.w); told != wrong|own {
+		p.t.Fatalf("the model says %d, not %d", told, wrong|own)
+	}
+	return wrong
+}
+
 // both tells whether an association is open at both sides.
 func (p *play) both(k api.End) (api.End, bool) {
-	peer, ok := model.Peer(p.w, k)
+	peer, ok := p.other(k)
 	return peer, ok && p.w.Assoc(k.Host, k.ID).State() == api.StateOpen && p.w.Assoc(peer.Host, peer.ID).State() == api.StateOpen
 }
 
@@ -194,7 +233,7 @@ func (p *play) calm() {
 
 // TestStorms is T1, T2 and T6, whatever users do, and whatever becomes of packets; then T4, when it is calm.
 func TestStorms(t *testing.T) {
-	opened, came := 0, 0
+	opened, own, came := 0, 0, 0
 	for seed := range int64(60) {
 		x := api.Weather{Lose: int(seed*7) % 40, Double: int(seed*5) % 30, Bend: int(seed*3) % 20, Most: 1 + int(seed)%5}
 		p := begin(t, seed, x)
@@ -203,22 +242,27 @@ func TestStorms(t *testing.T) {
 			p.do(api.Act{What: api.ActReboot, A: n})
 		}
 		p.calm()
-		if wrong := p.m.Wrong(p.w) | audit.World(p.w, p.topo); wrong != 0 {
+		if wrong := p.wrong() | audit.World(p.w, p.topo); wrong != 0 {
 			t.Fatalf("storm %d: wrong %d", seed, wrong)
 		}
 		for _, k := range model.Ends(p.w) {
-			if _, ok := p.both(k); !ok {
+			peer, ok := p.both(k)
+			if !ok {
 				continue
 			}
 			opened++
+			if peer.Host == k.Host {
+				own++
+			}
 			came += len(p.m.Sent(k))
-			if a := p.w.Assoc(k.Host, k.ID); p.m.Missing(p.w, k) != 0 || a.Left() != 0 {
-				t.Errorf("storm %d: %v, missing %d, left %d, %+v", seed, k, p.m.Missing(p.w, k), a.Left(), a.Paths())
+			missing := len(p.m.Sent(k)) - len(p.m.Read(peer))
+			if a := p.w.Assoc(k.Host, k.ID); missing != 0 || a.Left() != 0 {
+				t.Errorf("storm %d: %v, missing %d, left %d, %+v", seed, k, missing, a.Left(), a.Paths())
 			}
 		}
 	}
-	if opened < 100 || came < 100 {
-		t.Error("nothing much happened", opened, came)
+	if opened < 100 || own < 10 || came < 100 {
+		t.Error("nothing much happened", opened, own, came)
 	}
-	t.Log(opened, came)
+	t.Log(opened, own, came)
 }

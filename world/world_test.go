@@ -339,3 +339,46 @@ func TestNil(t *testing.T) {
 		t.Error("nil")
 	}
 }
+
+// TestInsideAndOutside: a host behind one between and one outside may have one address, and an association with each other.
+func TestInsideAndOutside(t *testing.T) {
+	x := topology()
+	x.Hosts[1].Places[0].Addr = 10
+	w := made(t, x)
+	do(t, w, listen(), connect(1))
+	w.Calm(8)
+	if w.Assoc(1, 0).State() != api.StateOpen || w.Assoc(2, 0).State() != api.StateOpen {
+		t.Fatal("not open")
+	}
+	do(t, w, api.Act{What: api.ActSend, Host: 1, S: "from inside"}, api.Act{What: api.ActSend, Host: 2, S: "from outside"}, api.Act{What: api.ActReboot})
+	w.Calm(200)
+	for host, want := range map[int]string{1: "from outside", 2: "from inside"} {
+		if s := w.Do(api.Act{What: api.ActRead, Host: host}); !s.OK || s.Read.Data != want {
+			t.Errorf("host %d: %+v", host, s)
+		}
+	}
+}
+
+// TestAsksItself: a host outside asks itself over one address or two, one behind ones between over one that is outside.
+func TestAsksItself(t *testing.T) {
+	x := topology()
+	x.Hosts[1].Places = append(x.Hosts[1].Places, at(12, -1))
+	w := made(t, x)
+	for _, a := range []api.Act{{Host: 2, A: 0, B: 5, C: 2, D: 0}, {Host: 2, A: 0, B: 6, C: 2, D: 1}, {Host: 1, A: 0, B: 5, C: 1, D: 1}} {
+		ends := w.Host(a.Host).Many()
+		do(t, w, api.Act{What: api.ActListen, Host: a.Host, A: 80})
+		a.What, a.E, a.F = api.ActConnect, 80, 2
+		if s := w.Do(a); !s.OK || s.ID != ends {
+			t.Fatalf("%+v", s)
+		}
+		w.Calm(10)
+		if w.Assoc(a.Host, ends).State() != api.StateOpen || w.Assoc(a.Host, ends+1).State() != api.StateOpen {
+			t.Fatalf("not open: %+v", a)
+		}
+		do(t, w, api.Act{What: api.ActSend, Host: a.Host, A: ends, S: "hello"})
+		w.Calm(10)
+		if s := w.Do(api.Act{What: api.ActRead, Host: a.Host, A: ends + 1}); !s.OK || s.Read.Data != "hello" {
+			t.Errorf("%+v", s)
+		}
+	}
+}
