@@ -37,3 +37,20 @@ func TestDue(t *testing.T) {
 		t.Error("Due")
 	}
 }
+
+// Times may be so far apart that their difference goes round.
+func TestDueFarApart(t *testing.T) {
+	for _, x := range []struct {
+		since, now int
+		due        bool
+	}{
+		{2, math.MinInt, false}, {1, math.MinInt, false}, {math.MaxInt - 2, -10632428846226996, false}, {math.MaxInt, math.MinInt, false}, {math.MaxInt, math.MinInt + 1, false}, {0, math.MinInt, false},
+		{math.MinInt, math.MaxInt, true}, {-1, math.MaxInt, true}, {math.MinInt, 0, true}, {0, math.MaxInt, true}, {math.MaxInt - 2, math.MaxInt, true}, {math.MaxInt - 1, math.MaxInt, false}, {math.MinInt, math.MinInt + 1, false}, {math.MinInt, math.MinInt + 2, true},
+	} {
+		for _, wait := range []int{math.MinInt, -1, 0, 1, 6, math.MaxInt} {
+			if Due(api.AckPlan{Wait: wait, Since: x.since}, x.now) != (x.due && wait > 0) {
+				t.Errorf("%d wait since %d, at %d", wait, x.since, x.now)
+			}
+		}
+	}
+}

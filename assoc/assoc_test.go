@@ -1,6 +1,7 @@
 package assoc
 
 import (
+	"math"
 	"reflect"
 	"slices"
 	"strings"
@@ -241,6 +242,29 @@ func TestNobodyAnswers(t *testing.T) {
 	a.Tick(930)
 	if a.State() != api.StateClosed || !slices.Equal(whats(a), []int{api.EventFailed}) {
 		t.Error("it failed")
+	}
+}
+
+// Times may be so far apart that their difference goes round.
+func TestFarApart(t *testing.T) {
+	a := New(setupA(), math.MinInt)
+	a.Outs()
+	if a.Tick(math.MaxInt); !slices.Equal(types(a.Outs()), []int{api.ChunkInit}) {
+		t.Error("nobody answers an init for very long")
+	}
+	a = New(setupA(), 5)
+	a.Outs()
+	if a.Tick(math.MinInt); len(a.Outs()) != 0 {
+		t.Error("an init is sent again ahead of when it was sent")
+	}
+	a, _ = pair(t)
+	send(t, a, 5, "x")
+	a.Outs()
+	if a.Tick(math.MinInt); a.Stats().Late != 0 {
+		t.Error("data are late ahead of when they were sent")
+	}
+	if a.Tick(math.MaxInt); a.Stats().Late != 1 {
+		t.Error("data are late", a.Stats())
 	}
 }
 

@@ -3,12 +3,13 @@ package assoc
 import (
 	"crossway/api"
 	"crossway/param"
+	"crossway/span"
 )
 
 // timer is when something was sent last, and how often it was sent again.
 type timer struct{ at, again int }
 
-func (t timer) due(now int) bool { return now-t.at >= waits(t.again) }
+func (t timer) due(now int) bool { return span.Since(t.at, now) >= waits(t.again) }
 
 // waits is how long is waited for an answer to what was sent again so often.
 func waits(again int) int {

@@ -5,6 +5,7 @@ import (
 	"crossway/api"
 	"crossway/octet"
 	"crossway/path"
+	"crossway/span"
 )
 
 // Tick lets time come: what is due is done.
@@ -31,7 +32,7 @@ func (a *Assoc) sackDue(now int) {
 func (a *Assoc) late(now int) {
 	a.each(func(n int, x api.Path) api.Path {
 		at, ok := a.flight.Oldest(n)
-		if !ok || now-at < x.Rto.Wait {
+		if !ok || span.Since(at, now) < x.Rto.Wait {
 			return x
 		}
 		a.flight.Late(n)
@@ -84,6 +85,6 @@ func (a *Assoc) beaten(c api.Chunk, now int) {
 		a.errors = 0
 		a.stats.Backs++
 		x.Beat = 0
-		return path.Took(path.Good(x), now-x.BeatSent)
+		return path.Took(path.Good(x), span.Since(x.BeatSent, now))
 	})
 }

@@ -70,6 +70,22 @@ func TestSackCum(t *testing.T) {
 	}
 }
 
+// Times may be so far apart that their difference goes round.
+func TestTookFarApart(t *testing.T) {
+	for _, x := range []struct{ at, now, took int }{{-5, math.MaxInt, math.MaxInt}, {math.MinInt, math.MaxInt, math.MaxInt}, {math.MinInt, 0, math.MaxInt}, {math.MinInt, -1, math.MaxInt}, {0, math.MaxInt, math.MaxInt}, {7, 9, 2}} {
+		f := New(0)
+		f.Add(data("a"), 0, x.at)
+		if a := f.Sack(1, nil, 1, x.now); a.Took[0] != x.took {
+			t.Errorf("sent at %d, came at %d: %d", x.at, x.now, a.Took[0])
+		}
+	}
+	f := New(0)
+	f.Add(data("a"), 0, math.MaxInt)
+	if a := f.Sack(1, nil, 1, math.MinInt); a.Took[0] >= 0 {
+		t.Error("it came ahead of when it was sent", a.Took)
+	}
+}
+
 func TestSackGaps(t *testing.T) {
 	f := of(0, 0, 1, 1)
 	a := f.Sack(100, gap(2, 2), 2, 60)

@@ -129,6 +129,19 @@ func TestExpire(t *testing.T) {
 	if tab.Expire(math.MaxInt, math.MaxInt-1) != 1 {
 		t.Error("Expire of very long ago")
 	}
+	for n, seen := range []int{-1, math.MinInt, 0, 5} {
+		tab.Add(entry(1, 1, 0))
+		tab.Touch(0, seen)
+		if gone := tab.Expire(math.MaxInt, math.MaxInt); gone != 0 != (seen < 0) {
+			t.Error("Expire of longer ago than any number", n)
+		}
+		tab.Wipe()
+	}
+	tab.Add(entry(1, 1, 0))
+	tab.Touch(0, 2)
+	if tab.Expire(math.MinInt, 0) != 0 || tab.Expire(math.MinInt, math.MinInt) != 0 || tab.Expire(math.MinInt+2, math.MinInt) != 0 || tab.Expire(math.MinInt+3, math.MinInt) != 1 {
+		t.Error("Expire ahead of when it was seen")
+	}
 	tab.Add(entry(1, 1, 0))
 	tab.Wipe()
 	if tab.Len() != 0 || len(tab.All()) != 0 {
