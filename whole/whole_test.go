@@ -109,7 +109,7 @@ func (p *play) user() {
 		if to == 4 {
 			place = 1
 		}
-		p.do(api.Act{What: api.ActConnect, Host: host, A: p.r.Intn(2), B: p.pick(5, 6, 80, 80), C: to, D: place, E: 80, F: p.pick(1, 2, 3, 3, -2)})
+		p.do(api.Act{What: api.ActConnect, Host: host, A: p.r.Intn(2), B: p.pick(5, 6, 80, 80), C: to, D: place, E: p.pick(80, 80, 80, 5), F: p.pick(1, 2, 3, 3, -2)})
 	case n < 45:
 		p.written++
 		text := strconv.Itoa(p.written) + strings.Repeat("x", p.pick(0, 1, 150, 500, 2900))
